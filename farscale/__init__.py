@@ -1,0 +1,1 @@
+"""Farscale: how near things are, on any scale handed in."""
