@@ -1,7 +1,11 @@
-"""Scales that several tests use, and ways to tell scales by tables."""
+"""Scales and spaces that several tests use, and ways to tell scales by tables."""
+
+import itertools
+import random
 
 from farscale.families import ChainScale, DistanceScale, PairScale, StepScale, TurnedScale
 from farscale.scales import TableScale
+from farscale.spaces import Space
 
 
 def tables_of(scale):
@@ -51,6 +55,24 @@ def left_only():
     return changed(ChainScale(4), products=[("1", "2", "1"), ("2", "1", "2")])
 
 
+def growing(most):
+    """Counts up to a number and no count: the join is the greater one, the product the sum, cut at the most.
+
+    The unit is the least count: with each step of a count above nought the grade grows.
+    """
+    names = ["no"] + [str(k) for k in range(most + 1)]
+
+    def name(counts):
+        return "no" if None in counts else str(min(most, sum(counts)))
+
+    def count(grade):
+        return None if grade == "no" else int(grade)
+
+    joins = [[names[max(names.index(a), names.index(b))] for b in names] for a in names]
+    products = [[name([count(a), count(b)]) for b in names] for a in names]
+    return TableScale(names, joins, products, none="no", unit="0")
+
+
 def single():
     """A scale with one grade, which is none and unit."""
     return TableScale(["g"], [["g"]], [["g"]], none="g", unit="g")
@@ -60,7 +82,7 @@ def regular_scales():
     """Regular scales of all kinds."""
     chain, steps, near = ChainScale(2), StepScale(2), DistanceScale(2)
     return [
-        single(), diamond(), beyond_unit(),
+        single(), diamond(), beyond_unit(), growing(2), growing(14),
         ChainScale(1), chain, ChainScale(5), ChainScale(16),
         DistanceScale(0), near, DistanceScale(5), DistanceScale(14),
         StepScale(1), steps, TurnedScale(steps), TurnedScale(TurnedScale(steps)),
@@ -79,3 +101,58 @@ def irregular_scales():
         changed(ChainScale(2), none="1"), changed(ChainScale(2), unit="0"),
         TableScale(["a", "b"], [["b", "a"], ["a", "a"]], [["b", "b"], ["a", "b"]], none="a", unit="a"),
     ]
+
+
+def named(count):
+    """So many names of points."""
+    return [f"p{k}" for k in range(count)]
+
+
+def some_steps(scale, points, count, seed):
+    """So many steps between some of the points, the same ones for each call; none without points."""
+    if not points:
+        return []
+    chance = random.Random(seed)
+    grades = scale.grades()
+    return [(chance.choice(points), chance.choice(points), chance.choice(grades)) for _ in range(count)]
+
+
+def closed_by_rounds(scale, points, steps):
+    """The rows of the told space, worked out by joining products until nothing changes."""
+    near = {(x, y): scale.unit if x == y else scale.none for x in points for y in points}
+    for x, y, grade in steps:
+        near[x, y] = scale.join(near[x, y], grade)
+    before = None
+    while near != before:
+        before = dict(near)
+        for x, y, z in itertools.product(points, repeat=3):
+            near[x, z] = scale.join(near[x, z], scale.then(near[x, y], near[y, z]))
+    return [[near[x, y] for y in points] for x in points]
+
+
+def some_space(scale, count, seed=0):
+    """A space with so many points and all kinds of grades."""
+    points = named(count)
+    return Space(scale, points, closed_by_rounds(scale, points, some_steps(scale, points, count + 1, seed)))
+
+
+def distances():
+    """Three points on a way that leads back only slowly."""
+    return Space(DistanceScale(9), ["a", "b", "c"], [["0", "2", "5"], ["4", "0", "3"], ["far", "far", "0"]])
+
+
+def sides():
+    """Three points over the diamond; a and c are near on both sides, a and b on one."""
+    rows = [["both", "east", "both"], ["no", "both", "no"], ["west", "no", "both"]]
+    return Space(diamond(), ["a", "b", "c"], rows)
+
+
+def loops():
+    """Two points near themselves beyond the unit."""
+    return Space(beyond_unit(), ["a", "b"], [["many", "no"], ["no", "one"]])
+
+
+def moves():
+    """Three points over relations; a to c is the product of a to b and b to c in this order only."""
+    rows = [["1001", "0010", "0001"], ["0000", "1001", "0100"], ["0000", "0000", "1001"]]
+    return Space(StepScale(2), ["a", "b", "c"], rows)

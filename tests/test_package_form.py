@@ -1,21 +1,48 @@
 """The form of the package: where the interface stands, and the plain rules of its language."""
 
 import ast
+import inspect
 import pathlib
 import unittest
 
-from farscale import families, faults, scales
+from farscale import families, faults, maps, scales, searches, spaces, told
 
 FOLDER = pathlib.Path(scales.__file__).parent
-SCALE_METHODS = ("grades", "join", "then", "meet", "under", "over", "joined", "within", "__eq__", "__contains__")
+METHODS = {
+    scales.Scale: ("grades", "join", "then", "meet", "under", "over", "joined", "within", "__eq__", "__contains__"),
+    spaces.Space: ("points", "rows", "near", "alike", "__contains__", "__len__", "__eq__"),
+    maps.SpaceMap: ("__call__", "images", "keeps", "__rshift__", "__eq__", "same", "inclusion"),
+}
+FUNCTIONS = {
+    faults.first_fault: ("farscale.faults", ["scale"]),
+    spaces.turned: ("farscale.spaces", ["space"]),
+    spaces.part: ("farscale.spaces", ["space", "points"]),
+    told.told_space: ("farscale.told", ["scale", "points", "steps"]),
+    told.paths_of: ("farscale.told", ["scale", "points", "steps", "x", "y"]),
+    told.judge_paths: ("farscale.told", ["scale", "points", "steps", "x", "y", "paths"]),
+    searches.all_maps: ("farscale.searches", ["source", "target"]),
+    searches.renaming: ("farscale.searches", ["first", "second"]),
+    spaces.Space: ("farscale.spaces", ["scale", "points", "rows"]),
+    maps.SpaceMap: ("farscale.maps", ["source", "target", "images"]),
+}
 LIBRARY = {"heapq", "math", "itertools", "collections"}
 
 
 class Interface(unittest.TestCase):
 
-    def test_scale_has_its_methods_itself(self):
-        for name in SCALE_METHODS:
-            self.assertIn(name, vars(scales.Scale))
+    def test_classes_have_their_methods_themselves(self):
+        for made, names in METHODS.items():
+            for name in names:
+                self.assertIn(name, vars(made))
+
+    def test_class_methods_of_maps(self):
+        for name in ("same", "inclusion"):
+            self.assertIsInstance(vars(maps.SpaceMap)[name], classmethod)
+
+    def test_files_and_arguments(self):
+        for told_as, (file, arguments) in FUNCTIONS.items():
+            self.assertEqual(told_as.__module__, file)
+            self.assertEqual(list(inspect.signature(told_as).parameters), arguments)
 
     def test_classes_stand_in_their_files(self):
         for module, names in ((scales, ("Scale", "TableScale")),
@@ -25,9 +52,6 @@ class Interface(unittest.TestCase):
                 self.assertEqual(made.__module__, module.__name__)
                 self.assertTrue(issubclass(made, scales.Scale))
                 self.assertIn("__init__", vars(made))
-
-    def test_first_fault_stands_in_its_file(self):
-        self.assertEqual(faults.first_fault.__module__, "farscale.faults")
 
     def test_none_and_unit_of_a_table_go_by_keyword(self):
         with self.assertRaises(TypeError):

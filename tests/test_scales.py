@@ -8,6 +8,7 @@ from farscale.families import ChainScale, DistanceScale, PairScale, StepScale, T
 from farscale.scales import Scale, TableScale
 from tests.at_hand import (beyond_unit, changed, diamond, irregular_scales, left_only, regular_scales, single,
                            tables_of, told_again)
+from tests.checks import Checks
 
 
 class JoinsAndProducts(unittest.TestCase):
@@ -193,17 +194,7 @@ class ListsThatAreTold(unittest.TestCase):
         self.assertEqual(inner, left_only())
 
 
-class SameScales(unittest.TestCase):
-
-    def check_same(self, first, second):
-        self.assertIs(first == second, True)
-        self.assertIs(second == first, True)
-        self.assertIs(first != second, False)
-
-    def check_other(self, first, second):
-        self.assertIs(first == second, False)
-        self.assertIs(second == first, False)
-        self.assertIs(first != second, True)
+class SameScales(Checks):
 
     def test_told_in_different_ways(self):
         self.check_same(ChainScale(3), ChainScale(3))
