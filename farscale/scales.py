@@ -109,6 +109,15 @@ class Scale:
             result = self.join(result, grade)
         return result
 
+    def top(self):
+        """The join of all grades, within which each grade lies: the meet of no grades."""
+        return self.joined(self._names)
+
+    def meets(self, first, second):
+        """The meets of two lists of grades, entry by entry; for regular scales."""
+        # Straight from the table, for searches for closed pairs ask for meets by the million.
+        return [self._meets[a][b] for a, b in zip(first, second)]
+
     def __eq__(self, other):
         return (isinstance(other, Scale) and self._names == other._names
                 and self._joins == other._joins and self._products == other._products

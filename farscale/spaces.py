@@ -10,13 +10,18 @@ def _is_point_name(name):
     return is_plain_name(name) and not name[0].isdigit()
 
 
+def check_name(name, earlier):
+    """BadName if the string is no name, TwiceTold if it is one of the earlier ones."""
+    if not _is_point_name(name):
+        raise BadName(name)
+    if name in earlier:
+        raise TwiceTold(name)
+
+
 def check_names(names):
-    """BadName for the first name that is none, TwiceTold for the first that an earlier point has."""
+    """BadName or TwiceTold for the first name that is no name, or else one of those ahead of it."""
     for place, name in enumerate(names):
-        if not _is_point_name(name):
-            raise BadName(name)
-        if name in names[:place]:
-            raise TwiceTold(name)
+        check_name(name, names[:place])
 
 
 def check_rows(scale, rows, height, width):
@@ -41,12 +46,21 @@ def _check_same(scale, points, rows):
             raise NotSame(x)
 
 
+def first_shortcut(scale, first, second, whole):
+    """The first places i, j, k at which first[i][j] then second[j][k] does not lie within whole[i][k], or None."""
+    for i, row in enumerate(first):
+        for j, ahead in enumerate(row):
+            for k, behind in enumerate(second[j]):
+                if not scale.within(scale.then(ahead, behind), whole[i][k]):
+                    return i, j, k
+    return None
+
+
 def _check_through(scale, points, rows):
-    for i, x in enumerate(points):
-        for j, y in enumerate(points):
-            for k, z in enumerate(points):
-                if not scale.within(scale.then(rows[i][j], rows[j][k]), rows[i][k]):
-                    raise NotThrough(x, y, z)
+    found = first_shortcut(scale, rows, rows, rows)
+    if found is not None:
+        i, j, k = found
+        raise NotThrough(points[i], points[j], points[k])
 
 
 def _places(points):

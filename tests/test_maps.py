@@ -9,7 +9,7 @@ from farscale.families import ChainScale, DistanceScale, PairScale, StepScale, T
 from farscale.maps import SpaceMap, made_map
 from farscale.spaces import Space, made_space, part, turned
 from tests.at_hand import (beyond_unit, diamond, distances, growing, loops, moves, named, regular_scales, sides,
-                           some_space, told_again)
+                           single_point, some_space, told_again)
 from tests.checks import Checks
 
 
@@ -19,11 +19,6 @@ def fits(source, target, images):
     scale = source.scale
     return all(scale.join(source.near(x, y), target.near(leads[x], leads[y])) == target.near(leads[x], leads[y])
                for x in source.points() for y in source.points())
-
-
-def single_point(scale):
-    """A space with one point, at the unit to itself."""
-    return Space(scale, ["one"], [[scale.unit]])
 
 
 def line(*places):
