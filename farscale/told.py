@@ -4,19 +4,24 @@ from farscale.errors import BadPath, UnknownGrade, UnknownPoint
 from farscale.spaces import check_names, made_space
 
 
-def _check_points(points, asked):
+def check_points(points, asked):
     """UnknownPoint for the first that is asked for and is none of the points."""
     for point in asked:
         if point not in points:
             raise UnknownPoint(point)
 
 
+def check_step(scale, points, x, y, grade):
+    """UnknownPoint or UnknownGrade unless the step leads between two of the points."""
+    check_points(points, [x, y])
+    if grade not in scale:
+        raise UnknownGrade(grade)
+
+
 def _check_told(scale, points, steps):
     check_names(points)
     for x, y, grade in steps:
-        _check_points(points, [x, y])
-        if grade not in scale:
-            raise UnknownGrade(grade)
+        check_step(scale, points, x, y, grade)
 
 
 def told_space(scale, points, steps):
@@ -32,6 +37,19 @@ def closed_space(scale, points, steps):
         rows = _rows_by_way_of(scale, rows, place)
     for place in range(len(points)):
         rows[place][place] = scale.join(scale.unit, rows[place][place])
+    return made_space(scale, points, rows)
+
+
+def space_with_step(space, x, y, grade):
+    """The told space of the steps of a told space and one step more."""
+    scale = space.scale
+    points = space.points()
+    # A path takes the further step once, or goes back to its beginning any number of times.
+    often = scale.then(grade, _rounds(scale, scale.then(space.near(y, x), grade)))
+    ahead = [scale.then(space.near(point, x), often) for point in points]
+    behind = [space.near(y, point) for point in points]
+    rows = [[scale.join(near, scale.then(to_x, from_y)) for near, from_y in zip(row, behind)]
+            for row, to_x in zip(space.rows(), ahead)]
     return made_space(scale, points, rows)
 
 
@@ -71,10 +89,20 @@ def _rounds(scale, grade):
 def paths_of(scale, points, steps, x, y):
     """Paths from x to y, none of them to spare, the join of whose products is near(x, y) in the told space."""
     _check_told(scale, points, steps)
-    _check_points(points, [x, y])
+    check_points(points, [x, y])
     last_steps = _last_steps(scale, steps, x)
     grades = [grade for point, grade in last_steps if point == y]
     return [_path_to(last_steps, y, grade) for grade in _needed(scale, grades)]
+
+
+def path_beyond(scale, steps, x, y, grade):
+    """The numbers of the steps of a path from x to y whose product does not lie within the grade.
+
+    There must be such a path; it has the fewest steps.
+    """
+    last_steps = _last_steps(scale, steps, x)
+    products = [product for point, product in last_steps if point == y and not scale.within(product, grade)]
+    return _path_to(last_steps, y, products[0])
 
 
 def _last_steps(scale, steps, start):
@@ -129,7 +157,7 @@ def _needed(scale, grades):
 def judge_paths(scale, points, steps, x, y, paths):
     """The join of the products of paths from x to y."""
     _check_told(scale, points, steps)
-    _check_points(points, [x, y])
+    check_points(points, [x, y])
     for number, path in enumerate(paths):
         if not _leads(steps, path, x, y):
             raise BadPath(number)

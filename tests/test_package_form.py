@@ -5,13 +5,20 @@ import inspect
 import pathlib
 import unittest
 
-from farscale import families, faults, maps, scales, searches, spaces, told
+from farscale import (books, changes, families, faults, gluing, goingon, hulls, maps, pairs, quotients, scales,
+                      searches, spaces, tables, told)
 
 FOLDER = pathlib.Path(scales.__file__).parent
 METHODS = {
     scales.Scale: ("grades", "join", "then", "meet", "under", "over", "joined", "within", "__eq__", "__contains__"),
     spaces.Space: ("points", "rows", "near", "alike", "__contains__", "__len__", "__eq__"),
     maps.SpaceMap: ("__call__", "images", "keeps", "__rshift__", "__eq__", "same", "inclusion"),
+    tables.Table: ("at", "rows", "within", "__rshift__", "__or__", "__and__", "__eq__", "own"),
+    hulls.Hull: ("pair_of", "point_of"),
+    changes.ScaleMap: ("image", "fault", "loose", "__rshift__", "__eq__", "same"),
+    gluing.Glued: ("fit", ),
+    books.Book: ("points", "step", "cap", "drop", "undo", "steps", "caps", "__contains__", "__len__", "shown", "reach",
+                 "why", "slack", "attempt"),
 }
 FUNCTIONS = {
     faults.first_fault: ("farscale.faults", ["scale"]),
@@ -24,6 +31,29 @@ FUNCTIONS = {
     searches.renaming: ("farscale.searches", ["first", "second"]),
     spaces.Space: ("farscale.spaces", ["scale", "points", "rows"]),
     maps.SpaceMap: ("farscale.maps", ["source", "target", "images"]),
+    tables.Table: ("farscale.tables", ["source", "target", "rows"]),
+    tables.forward: ("farscale.tables", ["m"]),
+    tables.backward: ("farscale.tables", ["m"]),
+    quotients.under: ("farscale.quotients", ["first", "second"]),
+    quotients.over: ("farscale.quotients", ["first", "second"]),
+    quotients.partner: ("farscale.quotients", ["table"]),
+    quotients.partnerless: ("farscale.quotients", ["table"]),
+    pairs.closed_pairs: ("farscale.pairs", ["space"]),
+    pairs.closure: ("farscale.pairs", ["space", "grades"]),
+    pairs.bare_pair: ("farscale.pairs", ["space"]),
+    pairs.unsettled: ("farscale.pairs", ["space"]),
+    pairs.widened: ("farscale.pairs", ["space", "name", "column", "row"]),
+    hulls.Hull: ("farscale.hulls", ["space"]),
+    goingon.least_way: ("farscale.goingon", ["hull", "m", "space"]),
+    goingon.greatest_way: ("farscale.goingon", ["hull", "m", "space"]),
+    goingon.laid_into: ("farscale.goingon", ["hull", "m"]),
+    changes.ScaleMap: ("farscale.changes", ["source", "target", "images"]),
+    changes.carried: ("farscale.changes", ["m", "space"]),
+    # The second argument is called map in the document; a parameter may not have the name of a builtin.
+    changes.carried_map: ("farscale.changes", ["m", "moved"]),
+    changes.carried_table: ("farscale.changes", ["m", "table"]),
+    gluing.Glued: ("farscale.gluing", ["m", "n"]),
+    books.Book: ("farscale.books", ["scale", "points"]),
 }
 LIBRARY = {"heapq", "math", "itertools", "collections"}
 
@@ -35,9 +65,10 @@ class Interface(unittest.TestCase):
             for name in names:
                 self.assertIn(name, vars(made))
 
-    def test_class_methods_of_maps(self):
-        for name in ("same", "inclusion"):
-            self.assertIsInstance(vars(maps.SpaceMap)[name], classmethod)
+    def test_class_methods(self):
+        for made, name in ((maps.SpaceMap, "same"), (maps.SpaceMap, "inclusion"), (tables.Table, "own"),
+                           (changes.ScaleMap, "same")):
+            self.assertIsInstance(vars(made)[name], classmethod)
 
     def test_files_and_arguments(self):
         for told_as, (file, arguments) in FUNCTIONS.items():
