@@ -32,10 +32,10 @@ class Book:
         self._tell(self._steps, {**self._caps, name: (x, y, grade)}, self._space)
 
     def _check_bound(self, name, x, y, grade):
-        check_name(name, self._names())
+        check_name(name, self._told_names())
         check_step(self.scale, self.points(), x, y, grade)
 
-    def _names(self):
+    def _told_names(self):
         return list(self._steps) + list(self._caps)
 
     def _tell(self, steps, caps, space):
@@ -119,10 +119,10 @@ class Book:
                 if self._broken_cap(self._caps, space_with_step(self._space, x, y, grade)) is None]
 
     def __contains__(self, name):
-        return name in self._names()
+        return name in self._told_names()
 
     def __len__(self):
-        return len(self._names())
+        return len(self._told_names())
 
 
 def _without(bounds, name):

@@ -7,6 +7,7 @@ import unittest
 
 from farscale import (books, changes, families, faults, gluing, goingon, hulls, maps, pairs, quotients, scales,
                       searches, spaces, tables, told)
+from tests.operator_calls import unclear_calls
 
 FOLDER = pathlib.Path(scales.__file__).parent
 METHODS = {
@@ -118,6 +119,81 @@ class Language(unittest.TestCase):
                     self.assertEqual(node.level, 0)
                     self.assertTrue(node.module.startswith("farscale.") or node.module in LIBRARY, node.module)
                     self.assertNotIn("*", [name.name for name in node.names])
+
+    def test_operators_call_no_name_that_is_an_attribute_too(self):
+        texts = {path.relative_to(FOLDER).as_posix(): path.read_text() for path in self.files()}
+        self.assertEqual(unclear_calls(texts), [])
+
+
+LINE = """
+class Line:
+    def __init__(self, rows):
+        self.total = rows
+"""
+
+
+class UnclearCalls(unittest.TestCase):
+    """What the test of calls in operators finds, in small packages of a class Bill beside the class Line."""
+
+    def check_found(self, rows, bill, line=LINE):
+        self.assertEqual(unclear_calls({"bill.py": bill, "line.py": line}), [("bill.py", row, "total") for row in rows])
+
+    def test_in_operators(self):
+        for name in ("__len__", "__contains__", "__eq__", "__rshift__", "__lt__", "__repr__"):
+            with self.subTest(name):
+                self.check_found([3], f"class Bill:\n def {name}(self, *told):\n  return self.total()\n"
+                                 " def total(self):\n  return 0\n")
+
+    def test_in_properties(self):
+        self.check_found([4], "class Bill:\n @property\n def many(self):\n  return self.total()\n"
+                         " def total(self):\n  return 0\n")
+
+    def test_every_row_once(self):
+        self.check_found([3, 5], "class Bill:\n def __len__(self):\n  return self.total() + self.total()\n"
+                         " def __eq__(self, other):\n  return self.total() == 0\n def total(self):\n  return 0\n")
+
+    def test_through_a_method(self):
+        self.check_found([5], "class Bill:\n def __len__(self):\n  return self.many()\n"
+                         " def many(self):\n  return self.total()\n def total(self):\n  return 0\n")
+
+    def test_through_a_method_of_such_a_name(self):
+        self.check_found([3, 5], "class Bill:\n def __len__(self):\n  return self.total()\n"
+                         " def total(self):\n  return self.total()\n")
+
+    def test_through_functions(self):
+        self.check_found([5], "class Bill:\n def total(self):\n  return 0\n"
+                         "def many(bill):\n return bill.total()\ndef more(bill):\n return sum(map(many, [bill]))\n",
+                         LINE + "    def __len__(self):\n        return more(self)\n")
+
+    def test_through_a_class_that_is_made(self):
+        self.check_found([5], "class Bill:\n def total(self):\n  return 0\n"
+                         " def __init__(self):\n  self.many = self.total()\nclass Long(Bill):\n pass\n"
+                         "def made():\n return Long()\n", LINE + "    def __len__(self):\n        return made().many\n")
+
+    def test_attributes_of_all_assignments(self):
+        bill = "class Bill:\n def __len__(self):\n  return self.total()\n def total(self):\n  return 0\n"
+        for statement in ("line.total = 1", "line.total: int = 1", "line.total += 1", "a, (line.total, b) = 1, (2, 3)",
+                          "for line.total in (): pass"):
+            with self.subTest(statement):
+                self.check_found([3], bill, f"def told(line):\n {statement}\n")
+
+    def test_elsewhere_such_names_may_be_called(self):
+        self.check_found([], "class Bill:\n def __init__(self):\n  self.many = self.total()\n"
+                         " def __call__(self):\n  return self.total()\n def more(self):\n  return self.total()\n"
+                         " def __len__(self):\n  return len(self.many)\n def total(self):\n  return 0\n")
+
+    def test_operators_may_read_such_names(self):
+        self.check_found([], "class Bill:\n def total(self):\n  return self.total()\n",
+                         LINE + "    def __len__(self):\n        return len(self.total)\n")
+
+    def test_names_that_are_only_the_one_or_the_other(self):
+        self.check_found([], "class Bill:\n def __len__(self):\n  return self.many() + self.total\n"
+                         " def many(self):\n  return 0\n")
+
+    def test_properties_are_no_methods(self):
+        self.check_found([], "class Bill:\n @property\n def total(self):\n  return self.act\n"
+                         " @total.setter\n def total(self, act):\n  self.act = act\n"
+                         " def __len__(self):\n  return self.total()\n")
 
 
 if __name__ == "__main__":
